@@ -1,0 +1,1 @@
+"""Measurehall: tasks, machines run by seeds, told runs and ranks."""
