@@ -5,7 +5,7 @@ import inspect
 import pathlib
 import unittest
 
-from measurehall import errors, machines
+from measurehall import errors, halls, machines, notes, tasks
 
 FOLDER = pathlib.Path(errors.__file__).parent
 LIBRARY = ("heapq", "math", "itertools", "collections", "__future__")
@@ -57,12 +57,45 @@ class Rules(unittest.TestCase):
 
 
 class Interface(unittest.TestCase):
-    def test_answered(self):
-        self.assertEqual(machines.answered.__module__, "measurehall.machines")
-        told = inspect.signature(machines.answered).parameters
-        self.assertEqual(list(told), ["machine", "question", "seed"])
-        self.assertEqual(told["seed"].kind, inspect.Parameter.KEYWORD_ONLY)
-        self.assertEqual(told["seed"].default, 0)
+    def check_signature(self, function, places, names=()):
+        """The function takes these by their places, and these by their names, a seed of 0 alone."""
+        told = inspect.signature(function).parameters.values()
+        self.assertEqual([part.name for part in told], list(places) + list(names), function)
+        for part in told:
+            if part.name in names:
+                self.assertIs(part.kind, inspect.Parameter.KEYWORD_ONLY)
+                self.assertEqual(part.default, 0)
+            else:
+                self.assertIs(part.kind, inspect.Parameter.POSITIONAL_OR_KEYWORD)
+                self.assertIs(part.default, inspect.Parameter.empty)
+
+    def test_functions(self):
+        for module, name, places, names in (
+            (machines, "answered", ("machine", "question"), ("seed",)),
+            (notes, "written", ("machine",), ()), (notes, "read", ("text",), ()),
+            (tasks, "right", ("machine", "task"), ("seed",)), (tasks, "score", ("machine", "task"), ("seed",)),
+            (tasks, "heart", ("machine", "task"), ("seed",)), (halls, "led", ("deeds",), ()),
+        ):
+            function = vars(module)[name]
+            self.assertTrue(inspect.isfunction(function), name)
+            self.assertEqual(function.__module__, module.__name__)
+            self.check_signature(function, places, names)
+
+    def test_hall(self):
+        self.assertTrue(inspect.isclass(halls.Hall))
+        self.assertEqual(halls.Hall.__module__, "measurehall.halls")
+        self.check_signature(halls.Hall, ())
+        for name, places in (
+            ("task", ("name", "task")), ("machine", ("name", "machine")), ("strike", ("number",)), ("clean", ()),
+            ("parted", ()), ("ranks", ()), ("spread", ("name",)), ("shares", ("name",)), ("sure", ("share",)),
+            ("page", ("number",)), ("stale", ("number",)), ("deeds", ()), ("deal", ("deeds",)),
+            ("tell", ("machine", "task", "seed", "score")), ("publish", ()), ("holds", ("name",)),
+            ("ahead", ("one", "other")), ("turned", ("one", "other")), ("is_open", ()),
+        ):
+            method = vars(halls.Hall)[name]
+            self.assertTrue(inspect.isfunction(method), name)
+            self.assertEqual(method.__module__, "measurehall.halls")
+            self.check_signature(method, ("self",) + places)
 
 
 if __name__ == "__main__":
