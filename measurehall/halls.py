@@ -159,8 +159,9 @@ class Hall:
     def clean(self):
         """Strike the parted runs; tell what changes."""
         before = self.ranks_now()
-        for row in self.parted():
-            del self.runs[row[0]]
+        numbers = [row[0] for row in self.parted()]
+        for number in numbers:
+            del self.runs[number]
         self.done.append(("clean",))
         return changes(before, self.ranks_now())
 
